@@ -27,11 +27,11 @@ func (p *printer) bare(n int, leads bool) {
 	case api.Num:
 		p.put(strconv.Itoa(x.Num))
 	case api.Str:
-		p.put(text.Quote(x.Text))
+		p.putString(x.Text)
 	case api.Template:
 		p.template(x.Kids)
 	case api.Name:
-		p.put(x.Text)
+		p.name(n)
 	case api.Array:
 		p.put("[")
 		p.row(x.Kids, p.item)
@@ -72,7 +72,7 @@ func (p *printer) postfix(x api.Node, leads bool) {
 	case api.Member:
 		p.expr(x.Kids[0], tightLevel, leads)
 		p.put(".")
-		p.put(x.Text)
+		p.putName(x.Text)
 	case api.Index:
 		p.expr(x.Kids[0], tightLevel, leads)
 		p.put("[")
@@ -83,7 +83,7 @@ func (p *printer) postfix(x api.Node, leads bool) {
 		p.args(x.Kids[0])
 	case api.SuperMember:
 		p.put("super.")
-		p.put(x.Text)
+		p.putName(x.Text)
 	case api.True:
 		p.put("true")
 	case api.False:
@@ -110,7 +110,7 @@ func (p *printer) template(kids []int) {
 		if i == len(kids)-1 {
 			end = "`"
 		}
-		p.pieces = append(p.pieces, piece{begin + templatePiece(p.nodes[kid].Text) + end, ahead})
+		p.lay(begin+templatePiece(p.nodes[kid].Text)+end, begin+end, ahead)
 	}
 }
 

@@ -4,6 +4,8 @@ import (
 	"strings"
 
 	"shuck/api"
+	"shuck/lex"
+	"shuck/text"
 )
 
 // printer makes the text of a plain tree, and keeps how deep the statement stands that is being printed.
@@ -11,27 +13,29 @@ type printer struct {
 	nodes  []api.Node
 	third  []bool // of each node, whether it has parentheses for the third reason
 	depth  int
-	pieces []piece
-	less   []int // the Binaries with the sign `<`, in the order of the text
+	made   strings.Builder
+	tokens []api.Token // of what was made: their kinds, and which signs and words they are
+	less   []int       // the Binaries with the sign `<`, in the order of the text
 }
 
-// piece is some of the text: whole tokens, and blanks about them.
-type piece struct {
-	text  string
-	ahead string // what chapter 2 must have read to tell its tokens
-}
-
-func (p *printer) put(text string) { p.pieces = append(p.pieces, piece{text: text}) }
-
-// text is all that has been put.
-func (p *printer) text() string {
-	// Not strings.Join: of one piece that is the piece itself, which may be a node's Text.
-	var b strings.Builder
-	for _, x := range p.pieces {
-		b.WriteString(x.text)
+// lay puts some of the text: whole tokens, and blanks about them. Chapter 2 tells them one piece at a time, since the whole may be longer than it takes; and by a brief text of the same kinds, signs and words, since a name or a string may be so by itself. Ahead is what it must have read to tell them.
+func (p *printer) lay(piece, brief, ahead string) {
+	p.made.WriteString(piece)
+	for t := range lex.Scan([]byte(ahead + brief)) {
+		if t.At >= len(ahead) && t.Kind != api.TokEnd {
+			p.tokens = append(p.tokens, t)
+		}
 	}
-	return b.String()
 }
+
+// put puts signs, words, numbers, and blanks about them.
+func (p *printer) put(piece string) { p.lay(piece, piece, "") }
+
+func (p *printer) putName(name string) { p.lay(name, "a", "") }
+
+func (p *printer) putString(s string) { p.lay(text.Quote(s), `""`, "") }
+
+func (p *printer) putBlanks(count int) { p.lay(strings.Repeat(" ", count), "", "") }
 
 func (p *printer) program() { p.statements(p.nodes[0].Kids) }
 
@@ -50,8 +54,8 @@ func (p *printer) row(kids []int, one func(kid int)) {
 // item puts what may stand there without parentheses, whatever it is.
 func (p *printer) item(n int) { p.expr(n, anyLevel, false) }
 
-// name puts a node's name, or what else it has for Text.
-func (p *printer) name(n int) { p.put(p.nodes[n].Text) }
+// name puts a node's name.
+func (p *printer) name(n int) { p.putName(p.nodes[n].Text) }
 
 // isNone tells whether nothing stands in a place.
 func (p *printer) isNone(n int) bool { return p.nodes[n].Kind == api.None }

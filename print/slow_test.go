@@ -12,16 +12,18 @@ import (
 
 // Marks in a text that slow makes; no text has these bytes, since Quote escapes them.
 const (
-	opened = "\x01" // for a `(` of one of the three reasons
-	closed = "\x02"
-	lesser = "\x03" // for the `<` of a Binary without parentheses of 1 or 3
-	object = "\x04" // ahead of an Object
-	behind = "\x05" // behind it
+	opened     = "\x01" // for a `(` of the first or the second reason
+	closed     = "\x02"
+	lessOpened = "\x06" // for a `(` of the third reason alone
+	lessClosed = "\x07"
+	lesser     = "\x03" // for the `<` of a Binary without parentheses of 1 or 3
+	object     = "\x04" // ahead of an Object
+	behind     = "\x05" // behind it
 )
 
 // unmarked is a text without marks.
 func unmarked(s string) string {
-	return strings.NewReplacer(opened, "(", closed, ")", lesser, "<", object, "", behind, "").Replace(s)
+	return strings.NewReplacer(opened, "(", closed, ")", lessOpened, "(", lessClosed, ")", lesser, "<", object, "", behind, "").Replace(s)
 }
 
 // slow prints by the chapter's words, one step at a time: it makes texts and looks at them.
@@ -48,16 +50,18 @@ var levelsByKey = sync.OnceValue(func() map[string]int {
 	return all
 })
 
-// marked is the text of a tree that has one, with the marks in it, and how many Binaries have parentheses of the third reason.
-func marked(t api.Tree) (string, int) {
+// marked is the text of a tree that has one, with the marks in it; and the texts ahead of it, each of which lacks one more pair of parentheses of the third reason.
+func marked(t api.Tree) (string, []string) {
 	s := slow{l: t.Nodes, levels: levelsByKey(), third: map[int]bool{}}
+	var lacking []string
 	for {
 		s.less = nil
 		made := s.root()
 		n := s.mistaken(made)
 		if n < 0 {
-			return made, len(s.third)
+			return made, lacking
 		}
+		lacking = append(lacking, unmarked(made))
 		s.third[n] = true
 	}
 }
@@ -88,7 +92,8 @@ func (s *slow) mistaken(made string) int {
 func begins(s string) bool {
 	for end := range len(s) {
 		if s[end] == '>' && strings.HasPrefix(strings.TrimLeft(s[end+1:], " \n"), "(") {
-			if _, _, e := parse.Type([]byte("T" + s[:end+1])); e == api.OK {
+			// A TypeName alone: of T<A>[] | B<C> the first TypeArgs end with A.
+			if x, _, e := parse.Type([]byte("T" + s[:end+1])); e == api.OK && x.Nodes[0].Kind == api.TypeName {
 				return true
 			}
 		}
@@ -98,8 +103,11 @@ func begins(s string) bool {
 
 // expr is an expression in a place that asks for a level.
 func (s *slow) expr(n, asks, depth int) string {
-	if s.levels[key(s.l[n])] < asks || s.third[n] {
+	switch {
+	case s.levels[key(s.l[n])] < asks:
 		return opened + s.bare(n, depth, "<") + closed
+	case s.third[n]:
+		return lessOpened + s.bare(n, depth, "<") + lessClosed
 	}
 	return s.bare(n, depth, lesser)
 }

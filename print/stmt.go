@@ -1,10 +1,6 @@
 package print
 
-import (
-	"strings"
-
-	"shuck/api"
-)
+import "shuck/api"
 
 // statements puts statements or a class's members, a line each.
 func (p *printer) statements(kids []int) {
@@ -15,7 +11,7 @@ func (p *printer) statements(kids []int) {
 	}
 }
 
-func (p *printer) indent() { p.put(strings.Repeat("  ", p.depth)) }
+func (p *printer) indent() { p.putBlanks(2 * p.depth) }
 
 // braces puts `{`, statements one deeper, and `}`.
 func (p *printer) braces(kids []int) {
@@ -41,7 +37,8 @@ func (p *printer) statement(n int) {
 		p.put(";")
 	case api.Func:
 		p.put("function ")
-		p.function(x.Text, x.Kids[1], x.Kids[3])
+		p.name(n)
+		p.function(x.Kids[1], x.Kids[3])
 	case api.Class:
 		p.class(x)
 	case api.Field:
@@ -50,9 +47,11 @@ func (p *printer) statement(n int) {
 		p.item(x.Kids[1])
 		p.put(";")
 	case api.Method:
-		p.function(x.Text, x.Kids[1], x.Kids[3])
+		p.name(n)
+		p.function(x.Kids[1], x.Kids[3])
 	case api.Ctor:
-		p.function("constructor", x.Kids[0], x.Kids[1])
+		p.put("constructor")
+		p.function(x.Kids[0], x.Kids[1])
 	case api.Eval:
 		p.expr(x.Kids[0], anyLevel, true)
 		p.put(";")
@@ -91,7 +90,7 @@ func (p *printer) compound(x api.Node) {
 		p.loop(x.Kids)
 	case api.ForOf:
 		p.put("for (" + keyword(x) + " ")
-		p.put(x.Text)
+		p.putName(x.Text)
 		p.put(" of ")
 		p.item(x.Kids[0])
 		p.put(") ")
@@ -119,13 +118,13 @@ func keyword(x api.Node) string {
 
 func (p *printer) variable(x api.Node) {
 	p.put(keyword(x) + " ")
-	p.put(x.Text)
+	p.putName(x.Text)
 	p.put(" = ")
 	p.item(x.Kids[1])
 }
 
-func (p *printer) function(name string, params, body int) {
-	p.put(name)
+// function puts what stands behind a function's name.
+func (p *printer) function(params, body int) {
 	p.params(params)
 	p.put(" ")
 	p.block(body)
@@ -133,7 +132,7 @@ func (p *printer) function(name string, params, body int) {
 
 func (p *printer) class(x api.Node) {
 	p.put("class ")
-	p.put(x.Text)
+	p.putName(x.Text)
 	p.put(" ")
 	if base := x.Kids[1]; !p.isNone(base) {
 		p.put("extends ")

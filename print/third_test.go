@@ -58,6 +58,9 @@ func TestLess(t *testing.T) {
 		"(a < b) < c > [] > (e = f)",
 		"(a < b) < c < d >> [] > (e = f)",
 		"(a < b) < c > [] | d > (e = f)",
+		// TypeArgs end with the first `>` that is theirs
+		"a < b > [] | (c < d) > (e = f)",
+		"f(a < b > [], (c < d) > (e = f))",
 		"x < ((a < b) < c >> (d = e))",
 	)
 }
@@ -177,4 +180,15 @@ func TestLessAndObject(t *testing.T) {
 		"f(() => ({} < a), b > (c = d))",
 	)
 	expr().becomes(t, "() => (({}.p < a) > (b = c))", "() => ({}.p < a) > (b = c)")
+}
+
+// P6.1: the first sign gets its parentheses first, though those of a sign behind it part what it would go through. (So by the chapter's words there is a pair that could go: see P6.4.)
+func TestLessInOrder(t *testing.T) {
+	expr().stays(t,
+		"f((x < y), (a > (b = 1) < c) > (d = e))",
+		"[(x < y), (a > (b = 1) < c), z > (d = e)]",
+		"f((x < y), z, (a > (b = 1) < c) > (d = e), (x < y) > (b = 1))",
+		"f((x < y), (a > (b = 1) < c), (z > (b = 1) < c) > (d = e))",
+	)
+	program().stays(t, "f((x < y), (a > (b = 1) < c) > (d = e));\n")
 }
