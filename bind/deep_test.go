@@ -4,7 +4,6 @@ import (
 	"testing"
 
 	"shuck/api"
-	"shuck/bind"
 )
 
 // layer lays out nodes one behind the other.
@@ -67,7 +66,7 @@ func newLayer() *layer {
 // is fails, unless a tree's answer is that. (The trees are too great to be told, or to be looked at slowly.)
 func (r *layer) is(t *testing.T, what string, uses []api.Use, n int, e api.Errno) {
 	t.Helper()
-	got, gotN, gotE := bind.Program(api.Tree{Nodes: r.l})
+	got, gotN, gotE := program(t, api.Tree{Nodes: r.l})
 	if gotN != n || gotE != e || len(got) != len(uses) {
 		t.Fatalf("%s: %d uses, %d, %v, want %d, %d, %v", what, len(got), gotN, gotE, len(uses), n, e)
 	}

@@ -4,7 +4,6 @@ import (
 	"testing"
 
 	"shuck/api"
-	"shuck/bind"
 	"shuck/tree"
 )
 
@@ -52,7 +51,7 @@ func FuzzBind(f *testing.F) {
 			return
 		}
 		agrees(t, spoiled)
-		uses, n, e := bind.Program(spoiled)
+		uses, n, e := program(t, spoiled)
 		told(t, "again", spoiled, uses, n, e)
 	})
 }
