@@ -1,6 +1,7 @@
 package kinds_test
 
 import (
+	"fmt"
 	"reflect"
 	"strings"
 	"testing"
@@ -282,7 +283,7 @@ func TestWrongLists(t *testing.T) {
 		{Kind: api.KCase, Text: "A", Parts: []int{6}},
 	} {
 		n, e := p.find(x)
-		p.refused(reflect.ValueOf(x).String(), n, e, api.ErrArg)
+		p.refused(fmt.Sprint(x), n, e, api.ErrArg)
 	}
 }
 

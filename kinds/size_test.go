@@ -1,6 +1,7 @@
 package kinds_test
 
 import (
+	"strings"
 	"testing"
 
 	"shuck/api"
@@ -144,7 +145,7 @@ func TestTooLargeGoes(t *testing.T) {
 			p := begin(t)
 			id, types := p.id(row.of), p.lay(upTo(api.MaxSize), of(top))
 			want := of(row.of).subst([]int{1, 2}, []shape{upTo(api.MaxSize), of(top)})
-			if s := want.words(); s != replaced(row.want, top) {
+			if s := want.words(); s != strings.ReplaceAll(row.want, "TOP", top) {
 				t.Fatal(s, row.want)
 			}
 			n, e := p.subst(id, []int{1, 2}, types)
@@ -156,18 +157,6 @@ func TestTooLargeGoes(t *testing.T) {
 	p.refused("one goes, one does not", n, e, api.ErrComplex)
 	n, e = p.subst(p.id("T'1[] | T'2 | number"), []int{1, 2}, p.lay(upTo(api.MaxSize), of("never")))
 	p.refused("never does not help", n, e, api.ErrComplex)
-}
-
-func replaced(s, top string) string {
-	out := ""
-	for len(s) > 0 {
-		if len(s) >= 3 && s[:3] == "TOP" {
-			out, s = out+top, s[3:]
-			continue
-		}
-		out, s = out+s[:1], s[1:]
-	}
-	return out
 }
 
 // Subst: what falls together counts once.
