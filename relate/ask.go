@@ -26,8 +26,8 @@ func settledAs(yes bool) question {
 	return one()
 }
 
-// asker knows what pairs ask.
-type asker struct {
+// rules is what it takes to say what pairs ask.
+type rules struct {
 	arena    *kinds.Arena
 	pieces   map[int]members // of types that were asked for them: many pairs have one type
 	tooLarge bool            // whether there were some that can't be made
@@ -40,8 +40,8 @@ type members struct {
 }
 
 // asked is what a pair asks, by the first of the chapter's rules that fits.
-func (k *asker) asked(p pair) question {
-	x, y := k.at(p.x), k.at(p.y)
+func (r *rules) asked(p pair) question {
+	x, y := r.at(p.x), r.at(p.y)
 	switch {
 	case p.x == p.y, y.Kind == api.KAny, y.Kind == api.KUnknown:
 		return settledAs(true)
@@ -60,14 +60,14 @@ func (k *asker) asked(p pair) question {
 	case x.Kind == api.KArray && y.Kind == api.KArray:
 		return all(pair{x.Parts[0], y.Parts[0]})
 	case x.Kind == api.KFunc && y.Kind == api.KFunc:
-		return k.askedOfFuncs(x, y)
+		return r.askedOfFuncs(x, y)
 	}
-	return k.askedOfPieces(p)
+	return r.askedOfPieces(p)
 }
 
 // at is the type of a number that is there.
-func (k *asker) at(id int) api.Type {
-	t, _ := k.arena.At(id)
+func (r *rules) at(id int) api.Type {
+	t, _ := r.arena.At(id)
 	return t
 }
 
@@ -106,7 +106,7 @@ func isValueOf(x, y api.Type, id int) bool {
 }
 
 // askedOfFuncs is what functions ask: y's arguments go to x, x's answer goes where y's is asked for.
-func (k *asker) askedOfFuncs(x, y api.Type) question {
+func (r *rules) askedOfFuncs(x, y api.Type) question {
 	if unmarked(x.Marks) > len(y.Marks) {
 		return settledAs(false)
 	}
@@ -114,7 +114,7 @@ func (k *asker) askedOfFuncs(x, y api.Type) question {
 	for i := range min(len(x.Marks), len(y.Marks)) {
 		l = append(l, pair{y.Parts[i], x.Parts[i]})
 	}
-	if answer := answerOf(y); k.at(answer).Kind != api.KVoid {
+	if answer := answerOf(y); r.at(answer).Kind != api.KVoid {
 		l = append(l, pair{answerOf(x), answer})
 	}
 	return all(l...)
@@ -133,13 +133,13 @@ func unmarked(marks []bool) int {
 func answerOf(f api.Type) int { return f.Parts[len(f.Parts)-1] }
 
 // askedOfPieces is what a pair asks at which no other rule fits.
-func (k *asker) askedOfPieces(p pair) question {
-	x, y := k.piecesOf(p.x), k.piecesOf(p.y)
+func (r *rules) askedOfPieces(p pair) question {
+	x, y := r.piecesOf(p.x), r.piecesOf(p.y)
 	if x.err == api.ErrNone || y.err == api.ErrNone {
 		return settledAs(false)
 	}
 	if x.err != api.OK || y.err != api.OK {
-		k.tooLarge = true
+		r.tooLarge = true
 		return settledAs(false)
 	}
 	var l []pair
@@ -156,11 +156,11 @@ func (k *asker) askedOfPieces(p pair) question {
 }
 
 // piecesOf asks the arena once for each type.
-func (k *asker) piecesOf(id int) members {
-	m, ok := k.pieces[id]
+func (r *rules) piecesOf(id int) members {
+	m, ok := r.pieces[id]
 	if !ok {
-		m.list, m.err = k.arena.Pieces(id)
-		k.pieces[id] = m
+		m.list, m.err = r.arena.Pieces(id)
+		r.pieces[id] = m
 	}
 	return m
 }

@@ -22,15 +22,15 @@ func (r row) isYes() bool { return r.spare >= 0 }
 
 // worklist is the pairs that are reached from the first one, each once.
 type worklist struct {
-	asker
+	rules
 	rows    []row
 	numbers map[pair]int // of the rows
 }
 
-// begun is a worklist with a pair that nobody asks.
+// begun is a worklist with its first pair alone.
 func begun(a *kinds.Arena, first pair) *worklist {
 	return &worklist{
-		asker:   asker{arena: a, pieces: map[int]members{}},
+		rules:   rules{arena: a, pieces: map[int]members{}},
 		rows:    []row{{pair: first}},
 		numbers: map[pair]int{first: 0},
 	}
@@ -50,7 +50,7 @@ func (w *worklist) reached() iter.Seq[pair] {
 			q := w.asked(w.rows[n].pair)
 			w.rows[n].spare = q.spare
 			for _, p := range q.pairs {
-				if w.isNew(p, n) && !yield(p) {
+				if w.note(p, n) && !yield(p) {
 					return
 				}
 			}
@@ -58,8 +58,8 @@ func (w *worklist) reached() iter.Seq[pair] {
 	}
 }
 
-// isNew notes that a row asks a pair, and tells whether it is the first one that does.
-func (w *worklist) isNew(p pair, asker int) bool {
+// note notes that a row asks a pair, and tells whether that pair is new.
+func (w *worklist) note(p pair, asker int) bool {
 	n, ok := w.numbers[p]
 	if !ok {
 		n = len(w.rows)
