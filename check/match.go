@@ -1,0 +1,135 @@
+package check
+
+import (
+	"slices"
+
+	"shuck/api"
+)
+
+// matching is parameters for types, of which arguments say what they are.
+type matching struct {
+	*checker
+	vars []int
+	said []int // of each, what it was matched by; nowhere, as long as there is nothing
+	seen map[pair]struct{}
+	next []pair // what is to be matched, an argument's type for a Param's, the first one last: a stack, not calls, since one may lead to very many
+}
+
+// mostMatched is how many pairs are matched in one call: types that lead to each other in all orders of their parts would lead to more than anyone can wait for.
+const mostMatched = 1 << 16
+
+// matched is the types that a call's arguments say for a function's parameters.
+func (c *checker) matched(k call, s signature) []int {
+	if len(s.vars) == 0 {
+		return nil
+	}
+	m := &matching{c, s.vars, slices.Repeat([]int{nowhere}, len(s.vars)), map[pair]struct{}{}, nil}
+	for i := range min(len(k.given), len(s.params)) {
+		m.match(pair{k.given[i], s.params[i]})
+	}
+	for i, id := range m.said {
+		if id == nowhere {
+			m.said[i] = unknownType
+		}
+	}
+	return m.said
+}
+
+// match matches a pair, and all pairs that it leads to, each once.
+func (m *matching) match(p pair) {
+	m.next = append(m.next, p)
+	for len(m.next) > 0 && len(m.seen) < mostMatched {
+		last := len(m.next) - 1
+		p = m.next[last]
+		m.next = m.next[:last]
+		if _, ok := m.seen[p]; !ok {
+			m.seen[p] = struct{}{}
+			l := m.ledTo(p)
+			slices.Reverse(l)
+			m.next = append(m.next, l...)
+		}
+	}
+}
+
+// ledTo matches a parameter, or is the pairs that a pair of other types leads to, in order.
+func (m *matching) ledTo(p pair) []pair {
+	x, y := m.at(p.x), m.at(p.y)
+	switch {
+	case m.number(y) != nowhere:
+		m.settle(m.number(y), p.x)
+	case x.Kind == api.KArray && y.Kind == api.KArray:
+		return pairs(x.Parts, y.Parts)
+	case x.Kind == api.KFunc && y.Kind == api.KFunc:
+		return ofFuncs(x, y)
+	case x.Kind == api.KRef && y.Kind == api.KRef && x.Num == y.Num:
+		return pairs(x.Parts, y.Parts)
+	case y.Kind == api.KUnion:
+		return m.ofUnion(p.x, y.Parts)
+	default:
+		return m.ofPieces(p)
+	}
+	return nil
+}
+
+// number is which of the parameters a type is; nowhere, if it is none.
+func (m *matching) number(t api.Type) int {
+	if t.Kind != api.KVar {
+		return nowhere
+	}
+	return slices.Index(m.vars, t.Num)
+}
+
+// settle has a parameter be what an argument is, if nothing was matched for it.
+func (m *matching) settle(i, id int) {
+	if m.said[i] == nowhere {
+		m.said[i] = m.widen(id)
+	}
+}
+
+// pairs is what two lists have beside each other.
+func pairs(x, y []int) []pair {
+	l := make([]pair, min(len(x), len(y)))
+	for i := range l {
+		l[i] = pair{x[i], y[i]}
+	}
+	return l
+}
+
+func ofFuncs(x, y api.Type) []pair {
+	a, b := len(x.Marks), len(y.Marks)
+	return append(pairs(x.Parts[:a], y.Parts[:b]), pair{x.Parts[a], y.Parts[b]})
+}
+
+// ofUnion is the parameters among a union's parts, with what else an argument may be.
+func (m *matching) ofUnion(x int, parts []int) []pair {
+	var others []int
+	for _, part := range m.parts(x) {
+		if !slices.Contains(parts, part) {
+			others = append(others, part)
+		}
+	}
+	rest := m.union(others...)
+	var l []pair
+	for _, part := range parts {
+		if m.number(m.at(part)) != nowhere {
+			l = append(l, pair{rest, part})
+		}
+	}
+	return l
+}
+
+// ofPieces is the members of one name, if both types have members.
+func (m *matching) ofPieces(p pair) []pair {
+	if !m.mayHavePieces(p.x) || !m.mayHavePieces(p.y) {
+		return nil
+	}
+	its, _ := m.piecesOf(p.x)
+	asked, _ := m.piecesOf(p.y)
+	var l []pair
+	for _, p := range asked {
+		if its, ok := named(its, p.Name); ok {
+			l = append(l, pair{its.Type, p.Type})
+		}
+	}
+	return l
+}
