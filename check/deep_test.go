@@ -165,11 +165,11 @@ func TestManyMatched(t *testing.T) {
 		members := func(name string) string {
 			return "interface " + name + list(names) + " { v: T0; x: " + name + list(round) + "; y: " + name + list(swapped) + " } "
 		}
-		text := members("I") + members("J") + "function f<Z, " + list(names)[1:] + "(i: I" + list(names) + "): {z: Z; t: T0} { throw 1; } function g(j: J" + list(all) + ") { print(@f(j)); }"
+		text := members("I") + members("J") + "function f<Y, Z, " + list(names)[1:] + "(i: I" + list(names) + ", y: Y): {z: Z; t: T0; y: Y} { throw 1; } function g(j: J" + list(all) + ") { print(@f(j, \"\")); }"
 		plain, at := marked(t, text)
 		x := read(t, plain)
 		c := check.Program(x)
-		if got := c.Types[one(t, x, at, "Call")]; c.Err != api.OK || got != "{t: number; z: unknown}" {
+		if got := c.Types[one(t, x, at, "Call")]; c.Err != api.OK || got != "{t: number; y: string; z: unknown}" {
 			t.Errorf("%d: %v, %d, %q", count, c.Err, c.Node, got)
 		}
 	}

@@ -12,18 +12,17 @@ type matching struct {
 	vars []int
 	said []int // of each, what it was matched by; nowhere, as long as there is nothing
 	seen map[pair]struct{}
-	next []pair // what is to be matched, an argument's type for a Param's, the first one last: a stack, not calls, since one may lead to very many
 }
 
-// mostMatched is how many pairs are matched in one call: types that lead to each other in all orders of their parts would lead to more than anyone can wait for.
-const mostMatched = 1 << 16
+// mostMatched is how many pairs one argument may lead to: types that have each other in all orders of their parts lead to more than anyone can wait for.
+const mostMatched = 1 << 18
 
 // matched is the types that a call's arguments say for a function's parameters.
 func (c *checker) matched(k call, s signature) []int {
 	if len(s.vars) == 0 {
 		return nil
 	}
-	m := &matching{c, s.vars, slices.Repeat([]int{nowhere}, len(s.vars)), map[pair]struct{}{}, nil}
+	m := &matching{c, s.vars, slices.Repeat([]int{nowhere}, len(s.vars)), map[pair]struct{}{}}
 	for i := range min(len(k.given), len(s.params)) {
 		m.match(pair{k.given[i], s.params[i]})
 	}
@@ -35,19 +34,19 @@ func (c *checker) matched(k call, s signature) []int {
 	return m.said
 }
 
-// match matches a pair, and all pairs that it leads to, each once.
+// match matches a pair, an argument's type for a Param's, and all pairs that it leads to, each once. What is still to come is a stack, not calls: one pair may lead to very many.
 func (m *matching) match(p pair) {
-	m.next = append(m.next, p)
-	for len(m.next) > 0 && len(m.seen) < mostMatched {
-		last := len(m.next) - 1
-		p = m.next[last]
-		m.next = m.next[:last]
-		if _, ok := m.seen[p]; !ok {
-			m.seen[p] = struct{}{}
-			l := m.ledTo(p)
-			slices.Reverse(l)
-			m.next = append(m.next, l...)
+	next := []pair{p}
+	for count := 0; len(next) > 0 && count < mostMatched; count++ {
+		last := len(next) - 1
+		p, next = next[last], next[:last]
+		if _, ok := m.seen[p]; ok {
+			continue
 		}
+		m.seen[p] = struct{}{}
+		l := m.ledTo(p)
+		slices.Reverse(l)
+		next = append(next, l...)
 	}
 }
 
