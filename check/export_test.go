@@ -23,3 +23,17 @@ func Offences(t api.Tree) []int {
 	}
 	return l
 }
+
+// Patiently is Program, of a tree that chapter 7 takes, with calls that look ahead behind so many pairs.
+func Patiently(t api.Tree, patience int) api.Checked {
+	uses, n, e := bind.Program(t)
+	if e != api.OK {
+		return api.Checked{Err: e, Node: n}
+	}
+	c := newChecker(t.Nodes, uses)
+	c.patience = patience
+	if !attempt(c.check) {
+		return api.Checked{Err: api.ErrComplex}
+	}
+	return c.told()
+}

@@ -101,6 +101,9 @@ func agrees(t *testing.T, what string, x api.Tree) (api.Checked, map[int]string)
 			t.Fatalf("%s: the node %d %v is %q, not %q", what, n, x.Nodes[n], got.Types[n], s)
 		}
 	}
+	if ahead := check.Patiently(x, 0); !reflect.DeepEqual(ahead, got) {
+		t.Fatalf("%s: %v, %d, but %v, %d, if calls look ahead at once", what, got.Err, got.Node, ahead.Err, ahead.Node)
+	}
 	offences := check.Offences(x)
 	if all := slices.Sorted(maps.Keys(why)); !slices.Equal(offences, all) {
 		t.Fatalf("%s: %v offend, not %v (%v)", what, offences, all, why)

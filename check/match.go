@@ -12,17 +12,21 @@ type matching struct {
 	vars []int
 	said []int // of each, what it was matched by; nowhere, as long as there is nothing
 	seen map[pair]struct{}
+	foresight
 }
-
-// mostMatched is how many pairs one argument may lead to: types that have each other in all orders of their parts lead to more than anyone can wait for.
-const mostMatched = 1 << 18
 
 // matched is the types that a call's arguments say for a function's parameters.
 func (c *checker) matched(k call, s signature) []int {
 	if len(s.vars) == 0 {
 		return nil
 	}
-	m := &matching{c, s.vars, slices.Repeat([]int{nowhere}, len(s.vars)), map[pair]struct{}{}}
+	m := &matching{
+		checker:   c,
+		vars:      s.vars,
+		said:      slices.Repeat([]int{nowhere}, len(s.vars)),
+		seen:      map[pair]struct{}{},
+		foresight: foresight{wait: c.patience},
+	}
 	for i := range min(len(k.given), len(s.params)) {
 		m.match(pair{k.given[i], s.params[i]})
 	}
@@ -34,16 +38,20 @@ func (c *checker) matched(k call, s signature) []int {
 	return m.said
 }
 
-// match matches a pair, an argument's type for a Param's, and all pairs that it leads to, each once. What is still to come is a stack, not calls: one pair may lead to very many.
+// match matches a pair, an argument's type for a Param's, and all pairs that it leads to, each once, but such that lead to nothing. What is still to come is a stack, not calls: one pair may lead to very many.
 func (m *matching) match(p pair) {
 	next := []pair{p}
-	for count := 0; len(next) > 0 && count < mostMatched; count++ {
+	for len(next) > 0 {
 		last := len(next) - 1
 		p, next = next[last], next[:last]
 		if _, ok := m.seen[p]; ok {
 			continue
 		}
 		m.seen[p] = struct{}{}
+		if m.foresees(p) {
+			continue
+		}
+		m.walked++
 		l := m.ledTo(p)
 		slices.Reverse(l)
 		next = append(next, l...)
@@ -53,21 +61,22 @@ func (m *matching) match(p pair) {
 // ledTo matches a parameter, or is the pairs that a pair of other types leads to, in order.
 func (m *matching) ledTo(p pair) []pair {
 	x, y := m.at(p.x), m.at(p.y)
-	switch {
-	case m.number(y) != nowhere:
-		m.settle(m.number(y), p.x)
-	case x.Kind == api.KArray && y.Kind == api.KArray:
-		return pairs(x.Parts, y.Parts)
-	case x.Kind == api.KFunc && y.Kind == api.KFunc:
-		return ofFuncs(x, y)
-	case x.Kind == api.KRef && y.Kind == api.KRef && x.Num == y.Num:
-		return pairs(x.Parts, y.Parts)
-	case y.Kind == api.KUnion:
-		return m.ofUnion(p.x, y.Parts)
-	default:
-		return m.ofPieces(p)
+	if i := m.number(y); i != nowhere {
+		m.settle(i, p.x)
+		return nil
 	}
-	return nil
+	if l, ok := ofOneForm(x, y); ok {
+		return l
+	}
+	if y.Kind == api.KUnion {
+		return m.ofUnion(p.x, y.Parts)
+	}
+	if !m.mayHavePieces(p.x) || !m.mayHavePieces(p.y) {
+		return nil
+	}
+	its, _ := m.piecesOf(p.x)
+	asked, _ := m.piecesOf(p.y)
+	return ofPieces(its, asked)
 }
 
 // number is which of the parameters a type is; nowhere, if it is none.
@@ -83,6 +92,19 @@ func (m *matching) settle(i, id int) {
 	if m.said[i] == nowhere {
 		m.said[i] = m.widen(id)
 	}
+}
+
+// ofOneForm is the parts that types of one form have beside each other; not, if they are of no such form.
+func ofOneForm(x, y api.Type) ([]pair, bool) {
+	switch {
+	case x.Kind != y.Kind:
+		return nil, false
+	case x.Kind == api.KFunc:
+		return ofFuncs(x, y), true
+	case x.Kind == api.KArray, x.Kind == api.KRef && x.Num == y.Num:
+		return pairs(x.Parts, y.Parts), true
+	}
+	return nil, false
 }
 
 // pairs is what two lists have beside each other.
@@ -117,13 +139,8 @@ func (m *matching) ofUnion(x int, parts []int) []pair {
 	return l
 }
 
-// ofPieces is the members of one name, if both types have members.
-func (m *matching) ofPieces(p pair) []pair {
-	if !m.mayHavePieces(p.x) || !m.mayHavePieces(p.y) {
-		return nil
-	}
-	its, _ := m.piecesOf(p.x)
-	asked, _ := m.piecesOf(p.y)
+// ofPieces is the members of one name, rising by the names of those that are asked for.
+func ofPieces(its, asked []api.Piece) []pair {
 	var l []pair
 	for _, p := range asked {
 		if its, ok := named(its, p.Name); ok {
