@@ -1,6 +1,7 @@
 package run_test
 
 import (
+	"runtime"
 	"slices"
 	"strconv"
 	"strings"
@@ -361,5 +362,20 @@ func TestAllCells(t *testing.T) {
 		if e != api.OK || o.End != end || o.Cells != cells {
 			t.Errorf("%s: %+v %v", text, o, e)
 		}
+	}
+}
+
+// W1: a long text in very many cells takes little memory.
+func TestLongTextInManyCells(t *testing.T) {
+	var before, behind runtime.MemStats
+	runtime.ReadMemStats(&before)
+	x := read(t, "let s = \"ab\"; while (s.length < 30000) { s += s; } const l = []; while (true) { l.push(s); }")
+	o, e := run.Program(x, nil, 20_000_000, 100000)
+	runtime.ReadMemStats(&behind)
+	if e != api.OK || o.End != api.EndHeap || o.Cells != 100000 {
+		t.Error(o.End, o.Cells, e)
+	}
+	if n := behind.TotalAlloc - before.TotalAlloc; n > 1<<30 {
+		t.Errorf("%d bytes", n)
 	}
 }
