@@ -38,9 +38,9 @@ func (b *builder) declared(u api.Use) place {
 	case u.Decl >= 0:
 		return b.laid[u.Decl]
 	case b.nodes[u.At].Text == "print":
-		return place{b.within[0], printing}
+		return place{b.within[0], printAt}
 	}
-	return place{b.within[0], inputing}
+	return place{b.within[0], inputAt}
 }
 
 // variable is a name, by the node that has it and the place for which it stands.

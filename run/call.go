@@ -123,9 +123,9 @@ func (c *applied) do(m *machine) {
 		}
 	case m.kind(f) != api.CFunction:
 		m.throw("TypeError: no function")
-	case f.Num == printing:
+	case f.Num == printAt:
 		m.print(args)
-	case f.Num == inputing:
+	case f.Num == inputAt:
 		m.input()
 	default:
 		m.call(m.functions[f.Num], this, args)

@@ -32,7 +32,7 @@ func planned(nodes []api.Node) *plan {
 		opened: make([]*area, len(nodes)),
 		laid:   make([]place, len(nodes)),
 	}
-	p.within[0] = &area{names: inputing + 1}
+	p.within[0] = &area{names: inputAt + 1}
 	for n := range nodes {
 		p.look(n)
 	}

@@ -5,7 +5,7 @@ import "shuck/api"
 // scope is one of chapter 7 that was entered. Those that have no names are not.
 type scope struct {
 	outer *scope
-	far   *scope // one further out: from it to it, any scope is found in few leaps, however many there are
+	far   *scope // one further out: by such leaps any scope about this one is found soon, however many there are
 	depth int    // how many scopes stand about it
 	slots []slot
 }
@@ -16,15 +16,15 @@ type slot struct {
 	has   bool // it has one
 }
 
-// The slots of the surroundings.
+// The slots of the surroundings; their things have the same numbers, since they are made ahead of all.
 const (
-	printing = 0
-	inputing = 1
+	printAt = 0
+	inputAt = 1
 )
 
 // outermost is the surroundings.
 func outermost() *scope {
-	s := &scope{slots: make([]slot, inputing+1)}
+	s := &scope{slots: make([]slot, inputAt+1)}
 	s.outer, s.far = s, s
 	return s
 }
