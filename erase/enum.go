@@ -3,6 +3,7 @@ package erase
 import (
 	"shuck/api"
 	"shuck/fold"
+	"shuck/part"
 )
 
 // readEnums reads the members of the Enums, and tells the first member that is refused; the number of no node, if there is none.
@@ -11,7 +12,7 @@ func (e *eraser) readEnums() int {
 		if node.Kind != api.Enum {
 			continue
 		}
-		members, at, err := fold.Members(e.alone(n), 0)
+		members, at, err := fold.Members(part.Tree(e.nodes, n), 0)
 		if err != api.OK {
 			// No other one is ahead of it: an Enum that stands in a member's expression makes that one refused.
 			return n + at
@@ -19,24 +20,6 @@ func (e *eraser) readEnums() int {
 		e.enums[n] = members
 	}
 	return len(e.nodes)
-}
-
-// alone is the tree of a node: Members looks through all of the tree that it is handed, and in the program's many Enums would take too long.
-func (e *eraser) alone(n int) api.Tree {
-	last := n
-	for kids := e.nodes[last].Kids; len(kids) > 0; kids = e.nodes[last].Kids {
-		last = kids[len(kids)-1]
-	}
-	l := make([]api.Node, 0, last+1-n)
-	for _, node := range e.nodes[n : last+1] {
-		kids := make([]int, len(node.Kids))
-		for i, kid := range node.Kids {
-			kids[i] = kid - n
-		}
-		node.Kids = kids
-		l = append(l, node)
-	}
-	return api.Tree{Nodes: l}
 }
 
 // readUses notes the Members that are those of Const Enums, and tells the first use of such an Enum that offends; the number of no node, if there is none.
