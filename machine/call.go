@@ -122,8 +122,10 @@ func Callee(s *Step) Task {
 
 // Pushes tells whether the first kid of a Call is a Member push.
 func Pushes(s *Step) bool {
-	o, ok := s.Kind.(Owner)
-	return ok && o.Pushes()
+	if o, ok := s.Kind.(Owner); ok {
+		return o.Pushes()
+	}
+	return false
 }
 
 func (c *call) Do(m *Machine) { m.Next(c.callee, InOrder(c.args), (*applied)(c)) }

@@ -275,3 +275,8 @@ func less(t *testing.T, what string, x api.Tree, inputs []string, all answer) {
 	agrees(t, what, x, inputs, plenty, all.Cells)
 	agrees(t, what, x, inputs, plenty, all.Cells+1)
 }
+
+// isOver tells whether a run has ended for want of cells at so many steps, with these outputs.
+func (a answer) isOver(steps, cells int, outputs ...string) bool {
+	return a.err == api.OK && a.End == api.EndHeap && a.Steps == steps && a.Cells == cells && slices.Equal(a.Outputs, outputs)
+}

@@ -1,17 +1,11 @@
 package machine_test
 
 import (
-	"slices"
 	"strconv"
 	"testing"
 
 	"shuck/api"
 )
-
-// isOver tells whether a run has ended for want of cells at so many steps, with these outputs.
-func (a answer) isOver(steps, cells int, outputs ...string) bool {
-	return a.err == api.OK && a.End == api.EndHeap && a.Steps == steps && a.Cells == cells && slices.Equal(a.Outputs, outputs)
-}
 
 // P17.1: what a Namespace exports, in order, and what it does not.
 func TestExports(t *testing.T) {

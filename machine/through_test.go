@@ -52,6 +52,8 @@ func TestTypes(t *testing.T) {
 		done("function f<T, U>(a: T, g: (x: any, y?: (z) => T) => U, b?: T): (x: any, y) => T { return [a, g, b]; } print(f<number, (x: any) => void>(1, 2, 3), f(4));", "[1, 2, 3] [4, undefined, undefined]"),
 		done("const f = <T>(a: (x) => T, b?: T, c?) => [a, b, c]; const g = (a: (x: (y) => any, z) => any) => a; print(f<any>(1, 2, 3));", "[1, 2, 3]"),
 		done("class A<T, U> implements I, J.K<T> { m<V>(f: (x: V, y) => T, a: V, b?: U): (z) => V { return [f, a, b]; } constructor(f: (x) => any, a: T) { print(f, a); } } class B<T> extends A<T, T[]> implements I {} print(new B<number>(1, 2).m<any>(3, 4, 5));", "1 2\n[3, 4, 5]"),
+		done("class A<T> { a: (x, y) => any = 1; readonly b: T; c; readonly d: { m(q: T): void; n?: true } | \"x\" | -1 | null = 2; e: A.B<T>[]; readonly f; g = 3; } print(new A<(x) => void>());", "{a: 1, d: 2, g: 3}"),
+		done("class A { c; readonly d; } class B extends A { c = 1; d: any; constructor() { super(); this.d = 2; } } print(new A(), new B());", "{} {c: 1, d: 2}"),
 		done("let a: (x, y) => any = 1; const b: { m(x: any, y: (z) => any): any } = 2; for (let i: (x) => any = 3; i < 4; i += 1) { let c: (x) => any = i; print(a, b, c, i); }", "1 2 3 3"),
 	)
 }

@@ -5,6 +5,7 @@ import (
 
 	"shuck/api"
 	"shuck/bind"
+	"shuck/tree"
 )
 
 // P17.1: the examples of the chapter, as they stand there.
@@ -21,7 +22,7 @@ func typedNames(t *testing.T) []refused {
 	t.Helper()
 	var l []refused
 	for _, text := range []string{
-		"E; enum E {}", "N; namespace N {}", "enum E { A = E }", "namespace N { N; }", "E = 1; enum E {}", "enum E {} E = 1;", "namespace N {} N += 1;", "const enum E {} E = 1;", "enum E {} enum E {}", "enum E {} namespace E {}", "namespace N { let a = 1; export const a = 1; }", "let E = 1; const enum E {}",
+		"E; enum E {}", "enum E { A = 1, B = A }", "enum E { A, B = E.A }", "const enum E { A, B = E.A }", "N; namespace N {}", "enum E { A = E }", "namespace N { N; }", "E = 1; enum E {}", "enum E {} E = 1;", "namespace N {} N += 1;", "const enum E {} E = 1;", "enum E {} enum E {}", "enum E {} namespace E {}", "namespace N { let a = 1; export const a = 1; }", "let E = 1; const enum E {}",
 		"namespace N { return 1; }", "while (true) { namespace N { break; } }", "for (;;) { namespace N { continue; } }", "namespace N { this; }", "class C { m() { namespace N { this; } } }", "class B {} class C extends B { m() { namespace N { super.m(); } } }", "function f() { namespace N { return; } }",
 		"namespace N { const a = 1; } a;", "namespace N { export const a = 1; } a;", "class P { constructor(public a) { let a = 1; } }", "class P { constructor(public a, readonly a) {} }", "class B {} class P extends B { constructor(public a) {} }", "x as any;", "x!;", "class C { constructor() { super() as any; } }", "print(E.A); const enum E { A }",
 		"x; enum E { A, A }", "const enum E { A } E; x;", "const enum E { A } E.Z; let E = 1;",
@@ -36,7 +37,7 @@ func typeErrors(t *testing.T) []refused {
 	t.Helper()
 	var l []refused
 	for _, text := range []string{
-		"enum E { A, A }", "const enum E { A, A }", "enum E { A = 1 % 0 }", "enum E { A = f() } function f() {}", `enum E { A = "x", B }`, "enum E { A = 9007199254740991, B }", "enum E { A = 9007199254740991 + 1 }", "enum E { A, B = print }", "enum E { A = `x` }", "namespace N { export enum E { A = null } }",
+		"enum E { A, A }", "const enum E { A, A }", "enum E { A = 1 % 0 }", "enum E { A = f() } function f() {}", `enum E { A = "x", B }`, "enum E { A = 9007199254740991, B }", "enum E { A = 9007199254740991 + 1 }", "enum E { A, B = print }", "let A = 1; enum E { B = A }", "enum D { A } enum E { B = D.A }", "enum E { A = `x` }", "namespace N { export enum E { A = null } }",
 		"const enum E { A } E;", "const enum E { A } print(E);", "const enum E { A } E.B;", "const enum E { A } E!.A;", "const enum E { A } (E as any).A;", `const enum E { A } E["A"];`, "const enum E { A } E.A = 1;", "const enum E { A } E.A += 1;", "const enum E { A } new E();", "const enum E { A } new E.A();", "const enum E { A } new E.A.B();", "const enum E { A } class C extends E {}", "const enum E { A } typeof E;", "const enum E { A } E();", "const enum E { A } const enum F { B = E.A }", "const enum E { A } () => E;", "function f() { return E; } const enum E {}",
 		"print(1); namespace N { const enum E {} E.A; }", "while (true) {} enum E { A, A }",
 	} {
@@ -45,11 +46,16 @@ func typeErrors(t *testing.T) []refused {
 	return l
 }
 
-// noPrograms are trees that have another root.
+func constEnum() api.Tree {
+	return tree.Make(api.Node{Kind: api.Enum, Text: "E", Num: api.Const})
+}
+
+// noPrograms are trees that have another root, and ones with something where it may not stand.
 func noPrograms() []refused {
 	var l []refused
 	for what, x := range map[string]api.Tree{
 		"an expression": number(1), "a statement": node(api.Empty, ""), "a List": list(), "None": none(), "a Name": name("x"), "a Block": node(api.Block, ""), "a type": node(api.TypeName, "A", list()), "a Break": node(api.Break, ""), "an Enum": node(api.Enum, "E"), "a Namespace": node(api.Namespace, "N"), "an Export": node(api.Export, "", node(api.Namespace, "N")), "an As": node(api.As, "", number(1), node(api.TypeName, "A", list())),
+		"a Const Enum exported": node(api.Program, "", node(api.Namespace, "N", node(api.Export, "", constEnum()))), "an Export in a Program": node(api.Program, "", node(api.Export, "", node(api.Namespace, "N"))), "an As assigned to": node(api.Program, "", node(api.Eval, "", node(api.Assign, "=", node(api.Bang, "", name("print")), number(1)))),
 	} {
 		l = append(l, refused{what, x, api.ErrTree})
 	}

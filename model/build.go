@@ -87,7 +87,7 @@ func (b *builder) build(n int) {
 	case api.Enum:
 		b.enum(n)
 	case api.Namespace:
-		b.Put(n, &machine.Declaration{Variable: b.Declared(n), Value: &namespace{b.Block(n), b.variables(b.exported(n))}})
+		b.declare(n, &namespace{b.Block(n), b.variables(b.exported(n))})
 	case api.Export:
 		b.Pass(n, 0)
 	case api.Member:
@@ -104,7 +104,12 @@ func (b *builder) enum(n int) {
 		b.Put(n, machine.Idle{})
 		return
 	}
-	b.Put(n, &machine.Declaration{Variable: b.Declared(n), Value: &object{members(b.nodes, n)}})
+	b.declare(n, &object{members(b.nodes, n)})
+}
+
+// declare has a node give its variable a value, which is no step.
+func (b *builder) declare(n int, value machine.Task) {
+	b.Put(n, &machine.Declaration{Variable: b.Declared(n), Value: value})
 }
 
 func (b *builder) member(n int) {
